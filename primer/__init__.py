@@ -1,0 +1,1 @@
+"""Primer: words explained by words."""

@@ -27,6 +27,19 @@ BARRED = r"""\b(type|typing|typing_extensions|enum|Enum|IntEnum|StrEnum|Flag|Int
 |namedtuple|NamedTuple|TypedDict|TYPE_CHECKING|abstractmethod)\b|dataclass|overload|contextmanager""".replace("\n", "")
 
 
+NOT_NAMES = """register mro elements open input version_info with_traceback add_note attrgetter breakpoint builtins
+compile copyright credits delattr dir eval exec exit gc getattr globals hasattr help id importlib license locals
+methodcaller os quit setattr super type vars sys""".split()
+
+WALKERS = ["zip", "enumerate", "reversed", "range"]
+VIEWS = ["items", "keys", "values"]
+WALKED_IN = ["list", "tuple", "dict", "sorted", "sum", "any", "all", "enumerate", "zip"]
+KEYWORDS = {"sorted": ["key", "reverse"], "min": ["key", "default"], "max": ["key", "default"], "sum": ["start"],
+            "enumerate": ["start"], "zip": ["strict"]}
+CHANGES = ["append", "clear", "extend", "insert", "pop", "remove", "reverse", "setdefault", "update"]
+PLAIN_VALUES = ["count", "index", "title", "find", "get", "join", "lower", "upper", "split", "strip", "copy", "add"]
+
+
 def parents_of(tree):
     return {child: node for node in ast.walk(tree) for child in ast.iter_child_nodes(node)}
 
@@ -54,6 +67,35 @@ def set_stands_well(node, parents):
     while isinstance(above, ast.BinOp):
         above = parents[above]
     return is_call_of(above, ["sorted", "len"]) and not above.keywords
+
+
+def is_view(node):
+    return isinstance(node, ast.Call) and isinstance(node.func, ast.Attribute) and node.func.attr in VIEWS
+
+
+def is_walked_at_once(node, above):
+    if isinstance(above, (ast.For, ast.comprehension)):
+        return above.iter is node
+    if is_call_of(above, WALKED_IN):
+        return above.args[0] is node or above.func.id == "zip"
+    if is_call_of(above, ["min", "max"]):
+        return len(above.args) == 1
+    return (isinstance(above, ast.Call) and isinstance(above.func, ast.Attribute) and above.func.attr == "join"
+            and isinstance(above.func.value, ast.Constant))
+
+
+def walked_names(node):
+    return {part.id for part in ast.walk(node) if isinstance(part, ast.Name)} if isinstance(
+        node, ast.Name) or is_call_of(node, WALKERS) or is_view(node) else set()
+
+
+def changed_names(loop):
+    for part in [each for row in loop.body for each in ast.walk(row)]:
+        if isinstance(part, ast.Call) and isinstance(part.func, ast.Attribute) and part.func.attr in CHANGES:
+            if isinstance(part.func.value, ast.Name):
+                yield part.func.value.id
+        if isinstance(part, ast.Subscript) and isinstance(part.ctx, ast.Store) and isinstance(part.value, ast.Name):
+            yield part.value.id
 
 
 class FormTest(unittest.TestCase):
@@ -134,6 +176,68 @@ class FormTest(unittest.TestCase):
         for place, node in self.nodes(ast.Name):
             if hasattr(builtins, node.id):
                 self.assertIn(node.id, OWN_NAMES, place)
+
+    def test_names_that_are_not_used(self):
+        for name, tree in self.trees.items():
+            for node in ast.walk(tree):
+                for part in [getattr(node, "id", None), getattr(node, "attr", None), getattr(node, "arg", None)]:
+                    self.assertNotIn(part, NOT_NAMES + ["format", "format_map"], name)
+
+    def test_locals_are_not_called_like_imports_or_anything_of_the_top(self):
+        for name, tree in self.trees.items():
+            tops = [part.name for part in tree.body if hasattr(part, "name")]
+            tops += [alias.name for part in tree.body if isinstance(part, ast.ImportFrom) for alias in part.names]
+            tops += [part.targets[0].id for part in tree.body if isinstance(part, ast.Assign)]
+            self.assertEqual(len(tops), len(set(tops)), name)
+            for node in ast.walk(tree):
+                if isinstance(node, (ast.FunctionDef, ast.Lambda)):
+                    inner = [part.arg for part in ast.walk(node) if isinstance(part, ast.arg)]
+                    inner += [part.id for part in ast.walk(node)
+                              if isinstance(part, ast.Name) and isinstance(part.ctx, ast.Store)]
+                    self.assertEqual([each for each in inner if each in tops], [], f"{name}:{node.lineno}")
+
+    def test_imports_are_used(self):
+        for name, tree in self.trees.items():
+            used = [node.id for node in ast.walk(tree) if isinstance(node, ast.Name)]
+            for part in tree.body:
+                if isinstance(part, ast.ImportFrom):
+                    for alias in part.names:
+                        self.assertIn(alias.name, used, name)
+
+    def test_values_of_objects(self):
+        methods = [node.name for _, tree in self.nodes(ast.ClassDef) for node in tree.body
+                   if isinstance(node, ast.FunctionDef)]
+        owned = {each for kind in (str, int, list, dict, set, bytes, tuple) for each in dir(kind)}
+        for place, node in self.nodes(ast.Attribute):
+            if isinstance(node.ctx, ast.Store):
+                self.assertNotIn(node.attr, methods, place)
+                self.assertTrue(node.attr not in owned or node.attr in PLAIN_VALUES, place)
+        for method in methods:
+            self.assertTrue(method.startswith("__") or method not in owned or method in METHODS, method)
+
+    def test_comprehensions_and_f_strings_are_plain(self):
+        for place, node in self.nodes(ast.ListComp):
+            self.assertEqual(len(node.generators), 1, place)
+            self.assertLessEqual(len(node.generators[0].ifs), 1, place)
+        for place, node in self.nodes(ast.FormattedValue):
+            self.assertIsInstance(node.value, ast.Name, place)
+            self.assertIsNone(node.format_spec, place)
+
+    def test_keywords(self):
+        for place, node in self.nodes(ast.Call):
+            for keyword in node.keywords:
+                self.assertIn(keyword.arg, KEYWORDS.get(getattr(node.func, "id", None), []), place)
+
+    def test_walked_at_once(self):
+        for name, tree in self.trees.items():
+            parents = parents_of(tree)
+            for node in ast.walk(tree):
+                if is_call_of(node, WALKERS) or is_view(node):
+                    self.assertTrue(is_walked_at_once(node, parents[node]), f"{name}:{node.lineno}")
+
+    def test_what_a_loop_walks_is_not_changed_in_it(self):
+        for place, node in self.nodes(ast.For):
+            self.assertEqual(walked_names(node.iter) & set(changed_names(node)), set(), place)
 
     def test_methods(self):
         own = [node.name for _, node in self.nodes(ast.FunctionDef)]

@@ -1,0 +1,109 @@
+"""What several tests share: books to ask about, and the document's words gone along slowly and plainly."""
+
+import random
+
+LETTERS = "abcdefghijklmnopqrstuvwxyz"
+EIGHT = ("a", "b", "c", "d", "e", "f", "g", "h")
+
+
+def names(number):
+    return [LETTERS[k // 26] + LETTERS[k % 26] for k in range(number)]
+
+
+def picture_rows(number):
+    return tuple((name, ()) for name in names(number))
+
+
+def chain(number, width, backward=False):
+    """So many rows, each of which tells the words of the rows ahead of it, as many as width; the first is a picture."""
+    words = names(number)
+    rows = [(word, tuple(words[max(0, k - width):k])) for k, word in enumerate(words)]
+    return tuple(reversed(rows)) if backward else tuple(rows)
+
+
+def random_book(chance, most_rows=9, letters="abcdefg", most_told=3, picture_share=0.2):
+    rows = []
+    seen = set()
+    for _ in range(chance.randint(0, most_rows)):
+        word = chance.choice(letters)
+        number = 0 if chance.random() < picture_share else chance.randint(1, most_told)
+        told = tuple(chance.sample(letters, number))
+        key = (word, frozenset(told))
+        if key not in seen:
+            seen.add(key)
+            rows.append((word, told))
+    return tuple(rows)
+
+
+def random_books(seed, number, **how):
+    chance = random.Random(seed)
+    return [random_book(chance, **how) for _ in range(number)]
+
+
+def many_books(number=150):
+    """Books of many shapes: few and many pictures, short and long rows, words with several rows, words that lack."""
+    found = [(), (("a", ()),), (("a", ("a",)),), (("a", ("b",)),), (("a", ("b",)), ("b", ("a",)))]
+    found += random_books(1, number)
+    found += random_books(2, number, most_rows=14, letters="abcde", most_told=2, picture_share=0.1)
+    found += random_books(3, number, most_rows=6, letters="abcdefghij", most_told=6, picture_share=0.4)
+    found += random_books(4, number // 3, most_rows=30, letters=names(25), most_told=2, picture_share=0.15)
+    return found
+
+
+def all_words(book):
+    found = set()
+    for word, told in book:
+        found.add(word)
+        found.update(told)
+    return sorted(found)
+
+
+def slow_rounds(book):
+    known = set()
+    found = []
+    while True:
+        fresh = {word for word, told in book if word not in known and known.issuperset(told)}
+        if not fresh:
+            return found
+        found.append(sorted(fresh))
+        known |= fresh
+
+
+def slow_learnt(book):
+    return sorted(word for words in slow_rounds(book) for word in words)
+
+
+def slow_is_order(book, steps):
+    ahead = []
+    for word, place in steps:
+        if place not in range(len(book)) or book[place][0] != word or word in ahead:
+            return False
+        if not set(book[place][1]) <= set(ahead):
+            return False
+        ahead.append(word)
+    return True
+
+
+def refused_with(test, wanted, ask, *things):
+    """The refusal is of just this class, and not of one above or beside it."""
+    with test.assertRaises(ValueError) as caught:
+        ask(*things)
+    test.assertIs(type(caught.exception), wanted, things)
+
+
+def own_answers(test, ask):
+    """A told list is the asker's own: whatever is done to one changes no later answer."""
+    first = ask()
+    wanted = repr(first)
+    spoil(first)
+    test.assertEqual(repr(ask()), wanted)
+
+
+def spoil(thing):
+    if isinstance(thing, (list, tuple)):
+        for part in thing:
+            spoil(part)
+    if isinstance(thing, list):
+        thing.reverse()
+        thing.append("spoilt")
+        thing[0] = ("spoilt", 99)

@@ -1,6 +1,6 @@
 """Books: tuples of rows (word, told), and whether they fit."""
 
-from primer.errors import Unfit
+from primer.errors import Unfit, Unknown
 from primer.words import is_word
 
 MOST_TOLD = 8
@@ -53,3 +53,8 @@ def lacking(book):
 
 def rows_of(book, word):
     return [place for place, row in enumerate(book) if row[0] == word]
+
+
+def refuse_unknown(book, word):
+    if word not in words_of(book):
+        raise Unknown(f"the book has no word {word}")

@@ -1,5 +1,8 @@
 """Learning: which words can be learnt from a book, in which rounds and in which order."""
 
+from primer.books import words_of
+from primer.errors import Unlearnt
+
 
 def places_that_tell(book):
     places = {}
@@ -58,6 +61,15 @@ def order(book):
 
 def learnt(book):
     return sorted([word for word, place in order(book)])
+
+
+def not_learnt(book):
+    return sorted(set(words_of(book)) - set(learnt(book)))
+
+
+def refuse_unlearnt(book, word):
+    if word not in learnt(book):
+        raise Unlearnt(f"the word {word} can't be learnt")
 
 
 def is_step(book, step, known):

@@ -107,3 +107,54 @@ def spoil(thing):
         thing.reverse()
         thing.append("spoilt")
         thing[0] = ("spoilt", 99)
+
+
+def slow_is_knot(book, pairs):
+    words = [word for word, blocks in pairs]
+    if words != sorted(words) or len(set(words)) != len(words) or not set(words) <= set(all_words(book)):
+        return False
+    for word, blocks in pairs:
+        rows = [told for other, told in book if other == word]
+        if len(blocks) != len(rows):
+            return False
+        for block, told in zip(blocks, rows):
+            if block not in told or block not in words:
+                return False
+    return True
+
+
+def slow_prices(book):
+    """The readings gone along from short to long: a price is found when no reading that is shorter is left."""
+    found = {}
+    while True:
+        offers = [(1 + sum(found[each] for each in told), word) for word, told in book
+                  if word not in found and all(each in found for each in told)]
+        if not offers:
+            return found
+        price, word = min(offers)
+        found[word] = price
+
+
+def reading_end(book, word, places, end):
+    """Where the reading of this word begins that ends ahead of end, or None where there is none."""
+    end -= 1
+    if end < 0 or places[end] not in range(len(book)) or book[places[end]][0] != word:
+        return None
+    for each in reversed(book[places[end]][1]):
+        end = reading_end(book, each, places, end)
+        if end is None:
+            return None
+    return end
+
+
+def is_reading(book, word, places):
+    return reading_end(book, word, places, len(places)) == 0
+
+
+def slow_under(book, word):
+    found = set()
+    while True:
+        more = {each for other, told in book if other == word or other in found for each in told}
+        if more <= found:
+            return sorted(found)
+        found |= more

@@ -55,6 +55,6 @@ def rows_of(book, word):
     return [place for place, row in enumerate(book) if row[0] == word]
 
 
-def refuse_unknown(book, word):
-    if word not in words_of(book):
-        raise Unknown(f"the book has no word {word}")
+def refuse_unknown(book, words):
+    if len(set(words) - set(words_of(book))) > 0:
+        raise Unknown("the book has no such word")

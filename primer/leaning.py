@@ -35,12 +35,12 @@ def reached(links, word):
 
 
 def under(book, word):
-    refuse_unknown(book, word)
+    refuse_unknown(book, [word])
     return sorted(reached(words_told_of(book), word))
 
 
 def over(book, word):
-    refuse_unknown(book, word)
+    refuse_unknown(book, [word])
     return sorted(reached(words_that_tell(book), word))
 
 

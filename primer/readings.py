@@ -9,7 +9,7 @@ DEAREST_READ = 2000
 
 
 def reading(book, word):
-    refuse_unknown(book, word)
+    refuse_unknown(book, [word])
     refuse_unlearnt(book, word)
     if dict(prices(book))[word] > DEAREST_READ:
         raise TooMany(f"the shortest readings of {word} are too long")

@@ -158,3 +158,46 @@ def slow_under(book, word):
         if more <= found:
             return sorted(found)
         found |= more
+
+
+def slow_pictured(book, words):
+    rows = list(book)
+    for word in words:
+        if (word, ()) not in rows:
+            rows.append((word, ()))
+    return tuple(rows)
+
+
+def slow_suffice(book, words):
+    return slow_learnt(slow_pictured(book, words)) == all_words(book)
+
+
+def has_knot_of(book, words):
+    """Whether some of these words, one at least, have a knot: they stay not learnt though all others are known."""
+    left = set(words)
+    while True:
+        free = {word for word in left if any(other == word and not left & set(told) for other, told in book)}
+        if not free:
+            return bool(left)
+        left -= free
+
+
+def is_core(book, pairs):
+    words = [word for word, blocks in pairs]
+    if not words or not slow_is_knot(book, pairs):
+        return False
+    return not any(has_knot_of(book, [word for word in words if word != out]) for out in words)
+
+
+def paper_shows(book, paper, given, left):
+    if type(paper) is not tuple or len(paper) != 2:
+        return False
+    pairs, branches = paper
+    if type(pairs) is not list or not pairs or not slow_is_knot(slow_pictured(book, given), pairs):
+        return False
+    if left == 0:
+        return branches == ()
+    if type(branches) is not tuple or [word for word, _ in branches] != [word for word, _ in pairs]:
+        return False
+    return all(type(branch) is tuple and paper_shows(book, branch[1], given + [branch[0]], left - 1)
+               for branch in branches)

@@ -55,6 +55,15 @@ def rows_of(book, word):
     return [place for place, row in enumerate(book) if row[0] == word]
 
 
+def gathered(pairs):
+    found = {}
+    for key, value in pairs:
+        if key not in found:
+            found[key] = []
+        found[key].append(value)
+    return found
+
+
 def refuse_unknown(book, words):
     if len(set(words) - set(words_of(book))) > 0:
         raise Unknown("the book has no such word")

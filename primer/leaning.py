@@ -1,25 +1,21 @@
 """Leaning: which words stand under which, by any rows and any number of steps."""
 
-from primer.books import refuse_unknown, words_of
+from primer.books import gathered, refuse_unknown, words_of
+
+
+def pairs_of(book):
+    pairs = []
+    for row in book:
+        pairs.extend([(row[0], word) for word in row[1]])
+    return pairs
 
 
 def words_told_of(book):
-    links = {}
-    for row in book:
-        if row[0] not in links:
-            links[row[0]] = []
-        links[row[0]].extend(row[1])
-    return links
+    return gathered(pairs_of(book))
 
 
 def words_that_tell(book):
-    links = {}
-    for row in book:
-        for word in row[1]:
-            if word not in links:
-                links[word] = []
-            links[word].append(row[0])
-    return links
+    return gathered([(told, word) for word, told in pairs_of(book)])
 
 
 # The word itself is reached only where a link leads back to it.

@@ -1,17 +1,14 @@
 """Learning: which words can be learnt from a book, in which rounds and in which order."""
 
-from primer.books import words_of
+from primer.books import gathered, words_of
 from primer.errors import Unlearnt
 
 
 def places_that_tell(book):
-    places = {}
+    pairs = []
     for place, row in enumerate(book):
-        for word in row[1]:
-            if word not in places:
-                places[word] = []
-            places[word].append(place)
-    return places
+        pairs.extend([(word, place) for word in row[1]])
+    return gathered(pairs)
 
 
 def new_steps(book, places, known):

@@ -4,10 +4,10 @@ from primer.reader import PICTURE_SIGN
 
 
 def shown(book):
-    return "\n".join([shown_row(row) for row in book])
+    return "\n".join([row[0] + " = " + shown_told(row[1]) for row in book])
 
 
-def shown_row(row):
-    if row[1] == ():
-        return row[0] + " = " + PICTURE_SIGN
-    return row[0] + " = " + " ".join(row[1])
+def shown_told(told):
+    if told == ():
+        return PICTURE_SIGN
+    return " ".join(told)
